@@ -1,0 +1,200 @@
+"""Histories: many calls of one thing at once, and the orders that explain them.
+
+A place is a tuple (done, holds): bit k of done stands for call k, and holds is
+the tuple of the numbers that the thing holds.
+"""
+
+NOT_RIGHT = -22
+TOO_MANY = -28
+THERE_IS_NONE = -33
+
+NEVER = 4294967295
+SUM_GOES_ROUND = 4294967296
+NUMBERS_IN_A_CALL = 6
+MOST_CALLS = 16
+MOST_PLACES = 256
+
+SORTS_OF_CALL = (3, 2, 3, 2)
+HELD_AT_FIRST = ((0,), (), (), (0,))
+
+
+class Call:
+    """One call: when it began and ended, what it is, and what it was answered."""
+
+    def __init__(self, numbers):
+        self.begin = numbers[0]
+        self.end = numbers[1]
+        self.what = numbers[2]
+        self.a = numbers[3]
+        self.b = numbers[4]
+        self.answered = numbers[5]
+
+
+def calls_of(history):
+    """The calls that a history tells, one behind another."""
+    size = NUMBERS_IN_A_CALL
+    return [Call(history[at:at + size]) for at in range(0, len(history), size)]
+
+
+def is_right(kind, calls):
+    """Whether there's such a kind of thing, and these may be calls of it."""
+    if kind >= len(SORTS_OF_CALL) or len(calls) > MOST_CALLS:
+        return False
+    for call in calls:
+        if call.what >= SORTS_OF_CALL[kind] or call.end < call.begin:
+            return False
+    return True
+
+
+def call_box(holds, call):
+    """What a box answers the call, and what it holds then."""
+    if call.what == 0:
+        return (holds[0], holds)
+    if call.what == 1:
+        return (0, (call.a,))
+    if holds[0] == call.a:
+        return (1, (call.b,))
+    return (0, holds)
+
+
+def call_row(holds, call):
+    """What a row answers the call, and what it holds then."""
+    if call.what == 0:
+        return (0, holds + (call.a,))
+    if len(holds) == 0:
+        return (0, holds)
+    return (holds[0] + 1, holds[1:])
+
+
+def call_set(holds, call):
+    """What a set answers the call, and what it holds then."""
+    there = call.a in holds
+    if call.what == 0 and not there:
+        return (1, tuple(sorted(holds + (call.a,))))
+    if call.what == 1 and there:
+        return (1, tuple([held for held in holds if held != call.a]))
+    if call.what == 2 and there:
+        return (1, holds)
+    return (0, holds)
+
+
+def call_sum(holds, call):
+    """What a sum answers the call, and what it holds then."""
+    if call.what == 0:
+        return (holds[0], ((holds[0] + call.a) % SUM_GOES_ROUND,))
+    return (holds[0], holds)
+
+
+def call_thing(kind, holds, call):
+    """What a thing of this kind answers the call, and what it holds then."""
+    if kind == 0:
+        return call_box(holds, call)
+    if kind == 1:
+        return call_row(holds, call)
+    if kind == 2:
+        return call_set(holds, call)
+    return call_sum(holds, call)
+
+
+def ended(call):
+    """Whether the call ended at all."""
+    return call.end != NEVER
+
+
+def is_done(done, number):
+    """Whether the call of this number is among those that are done."""
+    return (done >> number) & 1 == 1
+
+
+def start_of(kind):
+    """The place at which none is done."""
+    return (0, HELD_AT_FIRST[kind])
+
+
+def is_whole(calls, place):
+    """Whether all that ended are done at this place."""
+    for number, call in enumerate(calls):
+        if ended(call) and not is_done(place[0], number):
+            return False
+    return True
+
+
+def is_due(calls, done, number):
+    """Whether the call isn't done, and none that isn't done ended before it began."""
+    if is_done(done, number):
+        return False
+    # One that never ended needs no care here: no moment is later than NEVER.
+    for other, call in enumerate(calls):
+        if call.end < calls[number].begin and not is_done(done, other):
+            return False
+    return True
+
+
+def steps_from(kind, calls, place):
+    """The pairs (call, place that one comes to with it) from a place, the least call first."""
+    steps = []
+    for number, call in enumerate(calls):
+        if is_due(calls, place[0], number):
+            outcome = call_thing(kind, place[1], call)
+            if outcome[0] == call.answered or not ended(call):
+                steps.append((number, (place[0] | (1 << number), outcome[1])))
+    return steps
+
+
+def places_come_to(kind, calls):
+    """The places that are come to, in order; None if they're too many."""
+    places = [start_of(kind)]
+    there = {places[0]: True}
+    at = 0
+    # Whole places are gone on from too: what comes behind them is counted like the others.
+    while at < len(places):
+        steps = steps_from(kind, calls, places[at])
+        for step in steps:
+            if step[1] not in there:
+                if len(places) == MOST_PLACES:
+                    return None
+                there[step[1]] = True
+                places.append(step[1])
+        at += 1
+    return places
+
+
+def steps_with_hope(kind, calls, place, hopeful):
+    """Those of the steps from a place that lead to a hopeful one."""
+    return [step for step in steps_from(kind, calls, place) if step[1] in hopeful]
+
+
+def places_with_a_way(kind, calls, places):
+    """Those of the places from which one comes to a whole one, as keys of a dict."""
+    hopeful = {}
+    # Each step does one call more, so it leads to a place further back in the list.
+    for place in reversed(places):
+        if is_whole(calls, place) or len(steps_with_hope(kind, calls, place, hopeful)) > 0:
+            hopeful[place] = True
+    return hopeful
+
+
+def first_order(kind, calls, hopeful):
+    """The first order that explains the calls; the start must be among the hopeful places."""
+    numbers = []
+    place = start_of(kind)
+    while not is_whole(calls, place):
+        step = steps_with_hope(kind, calls, place, hopeful)[0]
+        numbers.append(step[0])
+        place = step[1]
+    return numbers
+
+
+def order(kind, history):
+    """The first order that explains the history: how many calls are in it, and they."""
+    calls = calls_of(history)
+    if not is_right(kind, calls):
+        return [NOT_RIGHT]
+    places = places_come_to(kind, calls)
+    if places is None:
+        return [TOO_MANY]
+    hopeful = places_with_a_way(kind, calls, places)
+    if start_of(kind) not in hopeful:
+        return [THERE_IS_NONE]
+    numbers = first_order(kind, calls, hopeful)
+    return [len(numbers)] + numbers

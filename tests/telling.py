@@ -1,0 +1,163 @@
+"""How the tests tell histories, and a slow answer to set beside the program's.
+
+The slow answer goes through every order there is and asks of each what the
+document asks of an order, so it shares no step with the program.
+"""
+
+from itertools import permutations
+
+NEVER = 4294967295
+GREATEST = 4294967295
+GREATEST_ANSWER = 18446744073709551615
+BOX, ROW, SET, SUM = 0, 1, 2, 3
+SORTS = {BOX: 3, ROW: 2, SET: 3, SUM: 2}
+
+
+def call(begin, end, what, a=0, b=0, answered=0):
+    return (begin, end, what, a, b, answered)
+
+
+def history(*calls):
+    return [number for told in calls for number in told]
+
+
+def one_by_one(*calls):
+    """A history of calls (what, a, b, answered), each begun when the one before had ended."""
+    return history(*[(2 * at, 2 * at + 1) + told for at, told in enumerate(calls)])
+
+
+def at_once(*calls):
+    """A history of calls (what, a, b, answered) that all began and ended together."""
+    return history(*[(0, 1) + told for told in calls])
+
+
+class Thing:
+    """A thing as the document tells it, changed in place."""
+
+    def __init__(self, kind):
+        self.kind = kind
+        self.number = 0
+        self.row = []
+        self.members = set()
+
+    def answer(self, what, a, b):
+        return {BOX: self.box, ROW: self.queue, SET: self.group, SUM: self.total}[self.kind](what, a, b)
+
+    def box(self, what, a, b):
+        before = self.number
+        if what == 0:
+            return before
+        if what == 1:
+            self.number = a
+            return 0
+        self.number = b if before == a else before
+        return int(before == a)
+
+    def queue(self, what, a, b):
+        if what == 0:
+            self.row.append(a)
+            return 0
+        return self.row.pop(0) + 1 if self.row else 0
+
+    def group(self, what, a, b):
+        was = a in self.members
+        if what == 0:
+            self.members |= {a}
+            return int(not was)
+        if what == 1:
+            self.members -= {a}
+        return int(was)
+
+    def total(self, what, a, b):
+        before = self.number
+        if what == 0:
+            self.number = (before + a) & 0xFFFFFFFF
+        return before
+
+    def held(self):
+        return (self.number, tuple(self.row), frozenset(self.members))
+
+
+def done_one_by_one(kind, calls, numbers):
+    """What the thing holds behind these calls, or None if one that ended is answered otherwise."""
+    thing = Thing(kind)
+    for number in numbers:
+        begin, end, what, a, b, answered = calls[number]
+        if thing.answer(what, a, b) != answered and end != NEVER:
+            return None
+    return thing.held()
+
+
+def ended(calls):
+    return {number for number in range(len(calls)) if calls[number][1] != NEVER}
+
+
+def in_time(calls, numbers):
+    """None stands behind one that began at a later moment than that at which it ended itself."""
+    return not any(calls[later][1] < calls[earlier][0]
+                   for at, later in enumerate(numbers) for earlier in numbers[:at])
+
+
+def explains(kind, calls, numbers):
+    return (ended(calls) <= set(numbers) and in_time(calls, numbers)
+            and done_one_by_one(kind, calls, numbers) is not None)
+
+
+def leaves_none_out(calls, numbers):
+    """Each that ended before one of these began is one of these."""
+    return all(other in numbers for number in numbers for other in range(len(calls))
+               if calls[other][1] < calls[number][0])
+
+
+def every_order(calls):
+    return [numbers for size in range(len(calls) + 1) for numbers in permutations(range(len(calls)), size)]
+
+
+def count_places(kind, calls):
+    places = set()
+    for numbers in every_order(calls):
+        if in_time(calls, numbers) and leaves_none_out(calls, numbers):
+            held = done_one_by_one(kind, calls, numbers)
+            if held is not None:
+                places.add((frozenset(numbers), held))
+    return len(places)
+
+
+def slow_order(kind, calls):
+    """What order must give back for a right history."""
+    if count_places(kind, calls) > 256:
+        return [-28]
+    orders = [numbers for numbers in every_order(calls) if explains(kind, calls, numbers)]
+    if not orders:
+        return [-33]
+    told = ()
+    while not ended(calls) <= set(told):
+        longer = [numbers for numbers in orders if numbers[:len(told)] == told and len(numbers) > len(told)]
+        told += (min(numbers[len(told)] for numbers in longer),)
+    return [len(told)] + list(told)
+
+
+class Draws:
+    """Numbers that look drawn by lot and are the same each time."""
+
+    def __init__(self, seed):
+        self.state = seed
+
+    def below(self, bound):
+        self.state = (self.state * 6364136223846793005 + 1442695040888963407) % 2 ** 64
+        return (self.state >> 33) % bound
+
+
+def drawn_calls(draws, kind, most):
+    """Calls answered as in some order, told in another one, now and then with a wrong answer."""
+    thing = Thing(kind)
+    calls = []
+    for at in range(draws.below(most + 1)):
+        what, a, b = draws.below(SORTS[kind]), draws.below(3), draws.below(3)
+        answered = thing.answer(what, a, b)
+        if draws.below(12) == 0:
+            answered = draws.below(4)
+        begin = max(0, 3 * at - draws.below(9))
+        end = NEVER if draws.below(4) == 0 else 3 * at + draws.below(9)
+        calls.insert(draws.below(len(calls) + 1), (begin, end, what, a, b, answered))
+    return calls
