@@ -130,14 +130,24 @@ def is_due(calls, done, number):
     return True
 
 
+def place_behind(kind, calls, place, number):
+    """The place that one comes to from a place with the call of this number; None if there's none."""
+    if not is_due(calls, place[0], number):
+        return None
+    call = calls[number]
+    outcome = call_thing(kind, place[1], call)
+    if ended(call) and outcome[0] != call.answered:
+        return None
+    return (place[0] | (1 << number), outcome[1])
+
+
 def steps_from(kind, calls, place):
     """The pairs (call, place that one comes to with it) from a place, the least call first."""
     steps = []
-    for number, call in enumerate(calls):
-        if is_due(calls, place[0], number):
-            outcome = call_thing(kind, place[1], call)
-            if outcome[0] == call.answered or not ended(call):
-                steps.append((number, (place[0] | (1 << number), outcome[1])))
+    for number in range(len(calls)):
+        behind = place_behind(kind, calls, place, number)
+        if behind is not None:
+            steps.append((number, behind))
     return steps
 
 
@@ -185,6 +195,21 @@ def first_order(kind, calls, hopeful):
     return numbers
 
 
+def explains(kind, calls, numbers):
+    """Whether these numbers are an order, and it explains the calls."""
+    place = start_of(kind)
+    for number in numbers:
+        # Asked ahead of the step, as there's no call to look at and the number may be far too large to shift by.
+        if number >= len(calls):
+            return False
+        # A step asks that all that ended before the call began are done: in an order that holds all that ended
+        # that's the same as that none of them stands behind it, and one that lacks some isn't whole in the end.
+        place = place_behind(kind, calls, place, number)
+        if place is None:
+            return False
+    return is_whole(calls, place)
+
+
 def order(kind, history):
     """The first order that explains the history: how many calls are in it, and they."""
     calls = calls_of(history)
@@ -198,3 +223,11 @@ def order(kind, history):
         return [THERE_IS_NONE]
     numbers = first_order(kind, calls, hopeful)
     return [len(numbers)] + numbers
+
+
+def follows(kind, history, order):
+    """1 if the order that's told explains the history, else 0."""
+    calls = calls_of(history)
+    if not is_right(kind, calls):
+        return [NOT_RIGHT]
+    return [1 if explains(kind, calls, order) else 0]

@@ -1,7 +1,7 @@
-"""How the tests tell histories, and a slow answer to set beside the program's.
+"""How the tests tell histories, and slow answers to set beside the program's.
 
-The slow answer goes through every order there is and asks of each what the
-document asks of an order, so it shares no step with the program.
+The slow answers go through every order there is and ask of each what the
+document asks of an order, so they share no step with the program.
 """
 
 from itertools import permutations
@@ -123,6 +123,13 @@ def count_places(kind, calls):
     return len(places)
 
 
+def slow_follows(kind, calls, numbers):
+    """What follows must give back for a right history."""
+    if len(set(numbers)) < len(numbers) or not set(numbers) <= set(range(len(calls))):
+        return [0]
+    return [int(explains(kind, calls, numbers))]
+
+
 def slow_order(kind, calls):
     """What order must give back for a right history."""
     if count_places(kind, calls) > 256:
@@ -135,6 +142,17 @@ def slow_order(kind, calls):
         longer = [numbers for numbers in orders if numbers[:len(told)] == told and len(numbers) > len(told)]
         told += (min(numbers[len(told)] for numbers in longer),)
     return [len(told)] + list(told)
+
+
+def every_two_calls():
+    """Pairs of a kind and two calls of it, over every way in which two may lie in time and be answered."""
+    moments = [(begin, end) for begin in range(2) for end in (0, 1, NEVER) if end >= begin]
+    told = []
+    for kind, sorts in SORTS.items():
+        ways = [(begin, end, what, a, 1, answered) for begin, end in moments for what in range(sorts)
+                for a in range(2) for answered in range(3)]
+        told.extend((kind, [first, second]) for first in ways for second in ways)
+    return told
 
 
 class Draws:

@@ -6,19 +6,38 @@ import sys
 import unittest
 
 from asifbehind import histories
-from asifbehind.histories import order
+from asifbehind.histories import follows, order
 from telling import BOX, NEVER, ROW, SET, SUM, at_once, call, history, one_by_one
 
+# A function, what is handed in, and what it must give back.
 ASKED = (
-    (BOX, at_once((0, 0, 0, 4), (2, 3, 4, 1), (1, 3, 0, 0)), [3, 2, 1, 0]),
-    (ROW, at_once((1, 0, 0, 8), (0, 7, 0, 0)), [2, 1, 0]),
-    (SET, at_once((2, 5, 0, 1), (0, 5, 0, 1)), [2, 1, 0]),
-    (SUM, at_once((1, 0, 0, 7), (0, 7, 0, 0)), [2, 1, 0]),
-    (BOX, [], [0]),
-    (BOX, one_by_one((0, 0, 0, 1)), [-33]),
-    (BOX, history(*[call(0, NEVER, 0)] * 9), [-28]),
-    (BOX, history(call(1, 0, 0)), [-22]),
-    (4, history(call(0, 1, 0)), [-22]),
+    (order, (BOX, at_once((0, 0, 0, 4), (2, 3, 4, 1), (1, 3, 0, 0))), [3, 2, 1, 0]),
+    (order, (ROW, at_once((1, 0, 0, 8), (0, 7, 0, 0))), [2, 1, 0]),
+    (order, (SET, at_once((2, 5, 0, 1), (0, 5, 0, 1))), [2, 1, 0]),
+    (order, (SUM, at_once((1, 0, 0, 7), (0, 7, 0, 0))), [2, 1, 0]),
+    (order, (BOX, []), [0]),
+    (order, (BOX, one_by_one((0, 0, 0, 1))), [-33]),
+    (order, (BOX, history(*[call(0, NEVER, 0)] * 9)), [-28]),
+    (order, (BOX, history(call(1, 0, 0))), [-22]),
+    (order, (4, history(call(0, 1, 0))), [-22]),
+    (follows, (BOX, at_once((0, 0, 0, 4), (2, 3, 4, 1), (1, 3, 0, 0)), [2, 1, 0]), [1]),
+    (follows, (ROW, at_once((1, 0, 0, 8), (0, 7, 0, 0)), [1, 0]), [1]),
+    (follows, (SET, at_once((2, 5, 0, 1), (0, 5, 0, 1)), [0, 1]), [0]),
+    (follows, (SUM, at_once((1, 0, 0, 7), (0, 7, 0, 0)), [1, 0]), [1]),
+    (follows, (SUM, at_once((1, 0, 0, 7), (0, 7, 0, 0)), [1, 0, 1]), [0]),
+    (follows, (BOX, [], []), [1]),
+    (follows, (BOX, history(call(0, NEVER, 0)), list(range(255))), [0]),
+    (follows, (BOX, history(call(1, 0, 0)), [0]), [-22]),
+)
+
+CHAIN = one_by_one(*[(0, 0, 0, 0)] * 16)
+LONGEST = one_by_one(*[(0, 0, 0, 0)] * 255)
+LONG = (
+    (order, (BOX, LONGEST), [-22]),
+    (order, (BOX, CHAIN), [16] + list(range(16))),
+    (follows, (BOX, LONGEST, list(range(255))), [-22]),
+    (follows, (BOX, CHAIN, list(range(255))), [0]),
+    (follows, (BOX, CHAIN, list(range(16))), [1]),
 )
 
 
@@ -34,46 +53,48 @@ class Untouched(list):
 
 class Interface(unittest.TestCase):
     def test_what_is_handed_in_is_as_it_was(self):
-        for kind, told, wanted in ASKED:
-            handed = Untouched(told)
-            self.assertEqual(order(kind, handed), wanted)
-            self.assertEqual(list(handed), told)
+        for function, told, wanted in ASKED:
+            lists = [list(part) for part in told[1:]]
+            handed = [Untouched(part) for part in lists]
+            self.assertEqual(function(told[0], *handed), wanted)
+            self.assertEqual([list(part) for part in handed], lists)
 
     def test_same_again_whatever_was_asked_between(self):
-        for kind, told, wanted in ASKED:
-            for other_kind, other, other_wanted in ASKED:
-                self.assertEqual(order(kind, told), wanted)
-                self.assertEqual(order(other_kind, other), other_wanted)
-            self.assertEqual(order(kind, told), wanted)
+        for function, told, wanted in ASKED:
+            for other, other_told, other_wanted in ASKED:
+                self.assertEqual(function(*told), wanted)
+                self.assertEqual(other(*other_told), other_wanted)
+            self.assertEqual(function(*told), wanted)
 
     def test_what_is_given_back_is_the_askers_own(self):
-        for kind, told, wanted in ASKED:
-            given = order(kind, told)
+        for function, told, wanted in ASKED:
+            given = function(*told)
             given.append(99)
             given[0] = 77
-            self.assertEqual(order(kind, told), wanted)
-            self.assertIsNot(order(kind, told), order(kind, told))
+            self.assertEqual(function(*told), wanted)
+            self.assertIsNot(function(*told), function(*told))
 
     def test_it_is_a_list_of_whole_numbers(self):
-        for kind, told, wanted in ASKED:
-            given = order(kind, told)
+        for function, told, wanted in ASKED:
+            given = function(*told)
             self.assertIs(type(given), list)
             self.assertEqual([type(number) for number in given], [int] * len(wanted))
 
     def test_arguments_by_name(self):
         self.assertEqual(order(kind=BOX, history=[]), [0])
+        self.assertEqual(follows(kind=BOX, history=[], order=[]), [1])
 
     def test_nothing_is_printed(self):
         out, err = io.StringIO(), io.StringIO()
         with contextlib.redirect_stdout(out), contextlib.redirect_stderr(err):
-            for kind, told, wanted in ASKED:
-                order(kind, told)
+            for function, told, wanted in ASKED:
+                function(*told)
         self.assertEqual((out.getvalue(), err.getvalue()), ("", ""))
 
     def test_nothing_is_imported_and_no_name_is_kept(self):
         modules, names = sorted(sys.modules), sorted(vars(histories))
-        for kind, told, wanted in ASKED:
-            order(kind, told)
+        for function, told, wanted in ASKED:
+            function(*told)
         self.assertEqual(sorted(sys.modules), modules)
         self.assertEqual(sorted(vars(histories)), names)
 
@@ -85,12 +106,10 @@ class Interface(unittest.TestCase):
         limit = sys.getrecursionlimit()
         sys.setrecursionlimit(depth + 30)
         try:
-            longest = order(BOX, one_by_one(*[(0, 0, 0, 0)] * 255))
-            chain = order(BOX, one_by_one(*[(0, 0, 0, 0)] * 16))
+            given = [function(*told) for function, told, wanted in LONG]
         finally:
             sys.setrecursionlimit(limit)
-        self.assertEqual(longest, [-22])
-        self.assertEqual(chain, [16] + list(range(16)))
+        self.assertEqual(given, [wanted for function, told, wanted in LONG])
 
 
 if __name__ == "__main__":

@@ -3,7 +3,7 @@
 import unittest
 
 from asifbehind.histories import order
-from telling import NEVER, SORTS, Draws, drawn_calls, explains, history, slow_order
+from telling import NEVER, SORTS, Draws, drawn_calls, every_two_calls, explains, history, slow_order
 
 
 class Beside(unittest.TestCase):
@@ -13,13 +13,8 @@ class Beside(unittest.TestCase):
         return given
 
     def test_two_calls_in_every_way(self):
-        moments = [(begin, end) for begin in range(2) for end in (0, 1, NEVER) if end >= begin]
-        for kind, sorts in SORTS.items():
-            told = [(begin, end, what, a, 1, answered) for begin, end in moments for what in range(sorts)
-                    for a in range(2) for answered in range(3)]
-            for first in told:
-                for second in told:
-                    self.beside(kind, [first, second])
+        for kind, calls in every_two_calls():
+            self.beside(kind, calls)
 
     def test_drawn_histories(self):
         draws = Draws(1)
