@@ -169,6 +169,16 @@ def places_come_to(kind, calls):
     return places
 
 
+def in_numbers(places):
+    """The places in numbers: of each which calls are done, how many numbers the thing holds, and they."""
+    numbers = []
+    for place in places:
+        numbers.append(place[0])
+        numbers.append(len(place[1]))
+        numbers.extend(place[1])
+    return numbers
+
+
 def steps_with_hope(kind, calls, place, hopeful):
     """Those of the steps from a place that lead to a hopeful one."""
     return [step for step in steps_from(kind, calls, place) if step[1] in hopeful]
@@ -231,3 +241,17 @@ def follows(kind, history, order):
     if not is_right(kind, calls):
         return [NOT_RIGHT]
     return [1 if explains(kind, calls, order) else 0]
+
+
+def proof(kind, history):
+    """The places that are come to, where no order explains the history: how many, and they in numbers."""
+    calls = calls_of(history)
+    if not is_right(kind, calls):
+        return [NOT_RIGHT]
+    places = places_come_to(kind, calls)
+    if places is None:
+        return [TOO_MANY]
+    # By an order that explains all one comes to a whole place, and whatever leads to a whole place is such an order.
+    if any([is_whole(calls, place) for place in places]):
+        return [THERE_IS_NONE]
+    return [len(places)] + in_numbers(places)

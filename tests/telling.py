@@ -31,6 +31,11 @@ def at_once(*calls):
     return history(*[(0, 1) + told for told in calls])
 
 
+def blocks(*sizes):
+    """Calls that read 0: so many at once, then so many, and on. 1 + the sum of (2^size - 1) places."""
+    return [call(2 * at, 2 * at + 1, 0) for at, size in enumerate(sizes) for turn in range(size)]
+
+
 class Thing:
     """A thing as the document tells it, changed in place."""
 
@@ -75,7 +80,8 @@ class Thing:
         return before
 
     def held(self):
-        return (self.number, tuple(self.row), frozenset(self.members))
+        """The numbers that it holds, as they stand in a place."""
+        return {BOX: [self.number], ROW: list(self.row), SET: sorted(self.members), SUM: [self.number]}[self.kind]
 
 
 def done_one_by_one(kind, calls, numbers):
@@ -113,14 +119,31 @@ def every_order(calls):
     return [numbers for size in range(len(calls) + 1) for numbers in permutations(range(len(calls)), size)]
 
 
-def count_places(kind, calls):
-    places = set()
+def slow_places(kind, calls):
+    """The places that are come to, in numbers.
+
+    Every order stands behind all the shorter ones and those of its length that begin with lesser calls: so the places
+    come up just as they do when each is gone on from in turn, with calls 0 and on.
+    """
+    places = []
     for numbers in every_order(calls):
         if in_time(calls, numbers) and leaves_none_out(calls, numbers):
             held = done_one_by_one(kind, calls, numbers)
             if held is not None:
-                places.add((frozenset(numbers), held))
-    return len(places)
+                place = [sum(2 ** number for number in numbers), len(held)] + held
+                if place not in places:
+                    places.append(place)
+    return places
+
+
+def slow_proof(kind, calls):
+    """What proof must give back for a right history."""
+    places = slow_places(kind, calls)
+    if len(places) > 256:
+        return [-28]
+    if any(explains(kind, calls, numbers) for numbers in every_order(calls)):
+        return [-33]
+    return [len(places)] + [number for place in places for number in place]
 
 
 def slow_follows(kind, calls, numbers):
@@ -132,7 +155,7 @@ def slow_follows(kind, calls, numbers):
 
 def slow_order(kind, calls):
     """What order must give back for a right history."""
-    if count_places(kind, calls) > 256:
+    if len(slow_places(kind, calls)) > 256:
         return [-28]
     orders = [numbers for numbers in every_order(calls) if explains(kind, calls, numbers)]
     if not orders:
@@ -166,14 +189,14 @@ class Draws:
         return (self.state >> 33) % bound
 
 
-def drawn_calls(draws, kind, most):
-    """Calls answered as in some order, told in another one, now and then with a wrong answer."""
+def drawn_calls(draws, kind, most, wrong=12):
+    """Calls answered as in some order, told in another one, one in so many answered by lot."""
     thing = Thing(kind)
     calls = []
     for at in range(draws.below(most + 1)):
         what, a, b = draws.below(SORTS[kind]), draws.below(3), draws.below(3)
         answered = thing.answer(what, a, b)
-        if draws.below(12) == 0:
+        if draws.below(wrong) == 0:
             answered = draws.below(4)
         begin = max(0, 3 * at - draws.below(9))
         end = NEVER if draws.below(4) == 0 else 3 * at + draws.below(9)

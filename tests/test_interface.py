@@ -6,7 +6,7 @@ import sys
 import unittest
 
 from asifbehind import histories
-from asifbehind.histories import follows, order
+from asifbehind.histories import follows, order, proof
 from telling import BOX, NEVER, ROW, SET, SUM, at_once, call, history, one_by_one
 
 # A function, what is handed in, and what it must give back.
@@ -28,6 +28,14 @@ ASKED = (
     (follows, (BOX, [], []), [1]),
     (follows, (BOX, history(call(0, NEVER, 0)), list(range(255))), [0]),
     (follows, (BOX, history(call(1, 0, 0)), [0]), [-22]),
+    (proof, (BOX, at_once((0, 0, 0, 5), (1, 3, 0, 0), (2, 3, 4, 1))), [3, 0, 1, 0, 2, 1, 3, 6, 1, 4]),
+    (proof, (ROW, one_by_one((0, 5, 0, 0), (1, 0, 0, 5))), [2, 0, 0, 1, 1, 5]),
+    (proof, (SET, one_by_one((0, 5, 0, 1), (2, 5, 0, 0))), [2, 0, 0, 1, 1, 5]),
+    (proof, (SUM, one_by_one((0, 5, 0, 0), (1, 0, 0, 6))), [2, 0, 1, 0, 1, 1, 5]),
+    (proof, (ROW, one_by_one((1, 0, 0, 1))), [1, 0, 0]),
+    (proof, (BOX, []), [-33]),
+    (proof, (BOX, history(*[call(0, NEVER, 0)] * 9)), [-28]),
+    (proof, (BOX, history(call(1, 0, 0))), [-22]),
 )
 
 CHAIN = one_by_one(*[(0, 0, 0, 0)] * 16)
@@ -38,6 +46,8 @@ LONG = (
     (follows, (BOX, LONGEST, list(range(255))), [-22]),
     (follows, (BOX, CHAIN, list(range(255))), [0]),
     (follows, (BOX, CHAIN, list(range(16))), [1]),
+    (proof, (BOX, LONGEST), [-22]),
+    (proof, (BOX, CHAIN), [-33]),
 )
 
 
@@ -83,6 +93,7 @@ class Interface(unittest.TestCase):
     def test_arguments_by_name(self):
         self.assertEqual(order(kind=BOX, history=[]), [0])
         self.assertEqual(follows(kind=BOX, history=[], order=[]), [1])
+        self.assertEqual(proof(kind=BOX, history=[]), [-33])
 
     def test_nothing_is_printed(self):
         out, err = io.StringIO(), io.StringIO()

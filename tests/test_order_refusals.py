@@ -3,14 +3,10 @@
 import unittest
 
 from asifbehind.histories import order
-from telling import BOX, ROW, SET, SUM, SORTS, GREATEST, GREATEST_ANSWER, NEVER, at_once, call, history, one_by_one
+from telling import (BOX, ROW, SET, SUM, SORTS, GREATEST, GREATEST_ANSWER, NEVER, at_once, blocks, call, history,
+                     one_by_one)
 
 READ = (0, 0, 0, 0)
-
-
-def blocks(*sizes):
-    """Reads of 0: so many at once, then so many, and on. 1 + the sum of (2^size - 1) places."""
-    return [call(2 * at, 2 * at + 1, 0) for at, size in enumerate(sizes) for turn in range(size)]
 
 
 class Edges(unittest.TestCase):
