@@ -7,12 +7,14 @@ the tuple of the numbers that the thing holds.
 NOT_RIGHT = -22
 TOO_MANY = -28
 THERE_IS_NONE = -33
+NO_PLACES = -71
 
 NEVER = 4294967295
 SUM_GOES_ROUND = 4294967296
 NUMBERS_IN_A_CALL = 6
 MOST_CALLS = 16
 MOST_PLACES = 256
+MOST_NUMBERS = 65536
 
 SORTS_OF_CALL = (3, 2, 3, 2)
 HELD_AT_FIRST = ((0,), (), (), (0,))
@@ -179,6 +181,46 @@ def in_numbers(places):
     return numbers
 
 
+def place_at(numbers, at):
+    """The place that stands in the numbers from here on; None if they end within it."""
+    if at + 1 == len(numbers):
+        return None
+    behind = at + 2 + numbers[at + 1]
+    if behind > len(numbers):
+        return None
+    return (numbers[at], tuple(numbers[at + 2:behind]))
+
+
+def rise(numbers):
+    """Whether each of the numbers is above the one before it."""
+    for at in range(1, len(numbers)):
+        if numbers[at] <= numbers[at - 1]:
+            return False
+    return True
+
+
+def may_hold(kind, numbers):
+    """Whether a thing of this kind may hold just these numbers."""
+    if kind == 1:
+        return True
+    if kind == 2:
+        return rise(numbers)
+    return len(numbers) == 1
+
+
+def places_in(kind, calls, numbers):
+    """The places that stand in the numbers, one behind another; None if they aren't places in numbers."""
+    places = []
+    at = 0
+    while at < len(numbers):
+        place = place_at(numbers, at)
+        if place is None or place[0] >> len(calls) != 0 or not may_hold(kind, place[1]):
+            return None
+        places.append(place)
+        at += 2 + len(place[1])
+    return places
+
+
 def steps_with_hope(kind, calls, place, hopeful):
     """Those of the steps from a place that lead to a hopeful one."""
     return [step for step in steps_from(kind, calls, place) if step[1] in hopeful]
@@ -220,6 +262,24 @@ def explains(kind, calls, numbers):
     return is_whole(calls, place)
 
 
+def leads_out(kind, calls, place, there):
+    """Whether some step from the place leads to one that isn't there."""
+    return any([step[1] not in there for step in steps_from(kind, calls, place)])
+
+
+def prove(kind, calls, places):
+    """Whether the start is among the places, none of them is whole, and no step leads out of them."""
+    there = {}
+    for place in places:
+        there[place] = True
+    if start_of(kind) not in there:
+        return False
+    for place in places:
+        if is_whole(calls, place) or leads_out(kind, calls, place, there):
+            return False
+    return True
+
+
 def order(kind, history):
     """The first order that explains the history: how many calls are in it, and they."""
     calls = calls_of(history)
@@ -255,3 +315,18 @@ def proof(kind, history):
     if any([is_whole(calls, place) for place in places]):
         return [THERE_IS_NONE]
     return [len(places)] + in_numbers(places)
+
+
+def check(kind, history, proof):
+    """1 if the places that are told in numbers prove that no order explains the history, else 0."""
+    calls = calls_of(history)
+    if not is_right(kind, calls):
+        return [NOT_RIGHT]
+    if len(proof) > MOST_NUMBERS:
+        return [NO_PLACES]
+    places = places_in(kind, calls, proof)
+    if places is None:
+        return [NO_PLACES]
+    if len(places) > MOST_PLACES:
+        return [TOO_MANY]
+    return [1 if prove(kind, calls, places) else 0]

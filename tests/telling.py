@@ -1,7 +1,8 @@
 """How the tests tell histories, and slow answers to set beside the program's.
 
-The slow answers go through every order there is and ask of each what the
-document asks of an order, so they share no step with the program.
+The slow answers go through every order there is, or through every place that
+is told, and ask of each what the document asks of it, so they share no step
+with the program.
 """
 
 from itertools import permutations
@@ -82,6 +83,20 @@ class Thing:
     def held(self):
         """The numbers that it holds, as they stand in a place."""
         return {BOX: [self.number], ROW: list(self.row), SET: sorted(self.members), SUM: [self.number]}[self.kind]
+
+
+def holding(kind, held):
+    """A thing that holds these numbers."""
+    thing = Thing(kind)
+    thing.row, thing.members = list(held), set(held)
+    if kind in (BOX, SUM):
+        thing.number = held[0]
+    return thing
+
+
+def in_numbers(*places):
+    """Places told as (done, numbers that the thing holds), in numbers."""
+    return [number for done, held in places for number in [done, len(held)] + list(held)]
 
 
 def done_one_by_one(kind, calls, numbers):
@@ -165,6 +180,48 @@ def slow_order(kind, calls):
         longer = [numbers for numbers in orders if numbers[:len(told)] == told and len(numbers) > len(told)]
         told += (min(numbers[len(told)] for numbers in longer),)
     return [len(told)] + list(told)
+
+
+def told_places(kind, calls, numbers):
+    """The places (done, held) that stand in the numbers, or None if they aren't places in numbers."""
+    places, rest = [], list(numbers)
+    while rest:
+        done, held = rest[0], rest[2:]
+        if len(rest) == 1 or len(held) < rest[1]:
+            return None
+        held, rest = held[:rest[1]], held[rest[1]:]
+        if done >= 2 ** len(calls) or kind in (BOX, SUM) and len(held) != 1:
+            return None
+        if kind == SET and held != sorted(set(held)):
+            return None
+        places.append((done, held))
+    return places
+
+
+def slow_steps(kind, calls, place):
+    """The places that one comes to from a place."""
+    waiting = [number for number in range(len(calls)) if place[0] // 2 ** number % 2 == 0]
+    places = []
+    for number in waiting:
+        begin, end, what, a, b, answered = calls[number]
+        thing = holding(kind, place[1])
+        if thing.answer(what, a, b) == answered or end == NEVER:
+            if all(calls[other][1] >= begin for other in waiting):
+                places.append((place[0] + 2 ** number, thing.held()))
+    return places
+
+
+def slow_check(kind, calls, numbers):
+    """What check must give back for a right history."""
+    places = told_places(kind, calls, numbers)
+    if places is None:
+        return [-71]
+    if len(places) > 256:
+        return [-28]
+    start = (0, [0] if kind in (BOX, SUM) else [])
+    whole = sum(2 ** number for number in ended(calls))
+    return [int(start in places and not any(place[0] & whole == whole for place in places)
+                and all(step in places for place in places for step in slow_steps(kind, calls, place)))]
 
 
 def every_two_calls():

@@ -6,7 +6,7 @@ import sys
 import unittest
 
 from asifbehind import histories
-from asifbehind.histories import follows, order, proof
+from asifbehind.histories import check, follows, order, proof
 from telling import BOX, NEVER, ROW, SET, SUM, at_once, call, history, one_by_one
 
 # A function, what is handed in, and what it must give back.
@@ -36,6 +36,16 @@ ASKED = (
     (proof, (BOX, []), [-33]),
     (proof, (BOX, history(*[call(0, NEVER, 0)] * 9)), [-28]),
     (proof, (BOX, history(call(1, 0, 0))), [-22]),
+    (check, (BOX, at_once((0, 0, 0, 5), (1, 3, 0, 0), (2, 3, 4, 1)), [0, 1, 0, 2, 1, 3, 6, 1, 4]), [1]),
+    (check, (ROW, one_by_one((0, 5, 0, 0), (1, 0, 0, 5)), [0, 0, 1, 1, 5]), [1]),
+    (check, (SET, one_by_one((0, 5, 0, 1), (2, 5, 0, 0)), [1, 1, 5, 0, 0]), [1]),
+    (check, (SUM, one_by_one((0, 5, 0, 0), (1, 0, 0, 6)), [0, 1, 0, 1, 1, 6]), [0]),
+    (check, (ROW, one_by_one((1, 0, 0, 1)), []), [0]),
+    (check, (BOX, [], [0, 1, 0]), [0]),
+    (check, (BOX, history(call(0, NEVER, 0)), [0, 1, 0, 0]), [-71]),
+    (check, (SET, history(call(0, NEVER, 0)), [0, 2, 5, 5]), [-71]),
+    (check, (ROW, history(call(0, NEVER, 0)), [0, 0] * 257), [-28]),
+    (check, (BOX, history(call(1, 0, 0)), [0, 1, 0]), [-22]),
 )
 
 CHAIN = one_by_one(*[(0, 0, 0, 0)] * 16)
@@ -48,6 +58,11 @@ LONG = (
     (follows, (BOX, CHAIN, list(range(16))), [1]),
     (proof, (BOX, LONGEST), [-22]),
     (proof, (BOX, CHAIN), [-33]),
+    (check, (BOX, LONGEST, [0, 1, 0] * 8000), [-22]),
+    (check, (BOX, CHAIN, [0, 1, 0] * 8000), [-28]),
+    (check, (BOX, CHAIN, [0, 1, 0] * 7999 + [0, 1]), [-71]),
+    (check, (BOX, CHAIN, [number for done in range(256) for number in (done, 1, 0)]), [0]),
+    (check, (ROW, one_by_one((1, 0, 0, 99)), [0, 0, 0, 23996] + [7] * 23996), [1]),
 )
 
 
@@ -94,6 +109,7 @@ class Interface(unittest.TestCase):
         self.assertEqual(order(kind=BOX, history=[]), [0])
         self.assertEqual(follows(kind=BOX, history=[], order=[]), [1])
         self.assertEqual(proof(kind=BOX, history=[]), [-33])
+        self.assertEqual(check(kind=BOX, history=[], proof=[]), [0])
 
     def test_nothing_is_printed(self):
         out, err = io.StringIO(), io.StringIO()

@@ -5,7 +5,7 @@ from itertools import combinations
 
 from asifbehind.histories import proof
 from telling import (BOX, ROW, SET, SUM, SORTS, GREATEST, GREATEST_ANSWER, NEVER, at_once, blocks, call, history,
-                     one_by_one)
+                     in_numbers, one_by_one)
 
 # An answer that no call here can have, whatever is done before it.
 FALSE = 99
@@ -13,7 +13,7 @@ FALSE = 99
 
 def listed(*places):
     """What must be given back for places told as (done, numbers that the thing holds)."""
-    return [len(places)] + [number for done, held in places for number in [done, len(held)] + held]
+    return [len(places)] + in_numbers(*places)
 
 
 class Box(unittest.TestCase):
