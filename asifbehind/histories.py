@@ -171,6 +171,12 @@ def places_come_to(kind, calls):
     return places
 
 
+def some_order_explains(calls, places):
+    """Whether some order explains the calls, told by all the places that are come to."""
+    # By an order that explains all one comes to a whole place, and whatever leads to a whole place is such an order.
+    return any([is_whole(calls, place) for place in places])
+
+
 def in_numbers(places):
     """The places in numbers: of each which calls are done, how many numbers the thing holds, and they."""
     numbers = []
@@ -280,6 +286,21 @@ def prove(kind, calls, places):
     return True
 
 
+def moments_of_end(calls):
+    """The moments at which calls ended, rising, each once."""
+    return sorted(set([call.end for call in calls if ended(call)]))
+
+
+def seen_by(calls, moment):
+    """The calls that had begun by a moment, those that hadn't ended by then as ones that didn't end."""
+    seen = []
+    for call in calls:
+        if call.begin <= moment:
+            end = call.end if call.end <= moment else NEVER
+            seen.append(Call([call.begin, end, call.what, call.a, call.b, call.answered]))
+    return seen
+
+
 def order(kind, history):
     """The first order that explains the history: how many calls are in it, and they."""
     calls = calls_of(history)
@@ -311,8 +332,7 @@ def proof(kind, history):
     places = places_come_to(kind, calls)
     if places is None:
         return [TOO_MANY]
-    # By an order that explains all one comes to a whole place, and whatever leads to a whole place is such an order.
-    if any([is_whole(calls, place) for place in places]):
+    if some_order_explains(calls, places):
         return [THERE_IS_NONE]
     return [len(places)] + in_numbers(places)
 
@@ -330,3 +350,18 @@ def check(kind, history, proof):
     if len(places) > MOST_PLACES:
         return [TOO_MANY]
     return [1 if prove(kind, calls, places) else 0]
+
+
+def since(kind, history):
+    """0 and the first moment at which no order explains what had been seen of the history by then."""
+    calls = calls_of(history)
+    if not is_right(kind, calls):
+        return [NOT_RIGHT]
+    for moment in moments_of_end(calls):
+        seen = seen_by(calls, moment)
+        places = places_come_to(kind, seen)
+        if places is None:
+            return [TOO_MANY]
+        if not some_order_explains(seen, places):
+            return [0, moment]
+    return [THERE_IS_NONE]

@@ -182,6 +182,23 @@ def slow_order(kind, calls):
     return [len(told)] + list(told)
 
 
+def seen_by(calls, moment):
+    """What had been seen by a moment."""
+    return [(begin, end if end <= moment else NEVER, what, a, b, answered)
+            for begin, end, what, a, b, answered in calls if begin <= moment]
+
+
+def slow_since(kind, calls):
+    """What since must give back for a right history."""
+    for moment in sorted({calls[number][1] for number in ended(calls)}):
+        seen = seen_by(calls, moment)
+        if len(slow_places(kind, seen)) > 256:
+            return [-28]
+        if not any(explains(kind, seen, numbers) for numbers in every_order(seen)):
+            return [0, moment]
+    return [-33]
+
+
 def told_places(kind, calls, numbers):
     """The places (done, held) that stand in the numbers, or None if they aren't places in numbers."""
     places, rest = [], list(numbers)

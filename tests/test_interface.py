@@ -6,7 +6,7 @@ import sys
 import unittest
 
 from asifbehind import histories
-from asifbehind.histories import check, follows, order, proof
+from asifbehind.histories import check, follows, order, proof, since
 from telling import BOX, NEVER, ROW, SET, SUM, at_once, call, history, one_by_one
 
 # A function, what is handed in, and what it must give back.
@@ -46,6 +46,13 @@ ASKED = (
     (check, (SET, history(call(0, NEVER, 0)), [0, 2, 5, 5]), [-71]),
     (check, (ROW, history(call(0, NEVER, 0)), [0, 0] * 257), [-28]),
     (check, (BOX, history(call(1, 0, 0)), [0, 1, 0]), [-22]),
+    (since, (BOX, history(call(4, 9, 0, 0, 0, 5), call(0, 3, 1, 3), call(2, 20, 2, 3, 4, 1))), [0, 9]),
+    (since, (ROW, one_by_one((0, 5, 0, 0), (1, 0, 0, 5), (1, 0, 0, 0))), [0, 3]),
+    (since, (SET, history(call(0, 7, 0, 5, 0, 1), call(0, 6, 0, 5, 0, 1))), [0, 7]),
+    (since, (SUM, one_by_one((0, 5, 0, 0), (1, 0, 0, 5))), [-33]),
+    (since, (BOX, []), [-33]),
+    (since, (BOX, history(*[call(0, 1, 0)] * 9)), [-28]),
+    (since, (BOX, history(call(1, 0, 0))), [-22]),
 )
 
 CHAIN = one_by_one(*[(0, 0, 0, 0)] * 16)
@@ -63,6 +70,9 @@ LONG = (
     (check, (BOX, CHAIN, [0, 1, 0] * 7999 + [0, 1]), [-71]),
     (check, (BOX, CHAIN, [number for done in range(256) for number in (done, 1, 0)]), [0]),
     (check, (ROW, one_by_one((1, 0, 0, 99)), [0, 0, 0, 23996] + [7] * 23996), [1]),
+    (since, (BOX, LONGEST), [-22]),
+    (since, (BOX, CHAIN), [-33]),
+    (since, (SUM, CHAIN), [-33]),
 )
 
 
@@ -110,6 +120,7 @@ class Interface(unittest.TestCase):
         self.assertEqual(follows(kind=BOX, history=[], order=[]), [1])
         self.assertEqual(proof(kind=BOX, history=[]), [-33])
         self.assertEqual(check(kind=BOX, history=[], proof=[]), [0])
+        self.assertEqual(since(kind=BOX, history=[]), [-33])
 
     def test_nothing_is_printed(self):
         out, err = io.StringIO(), io.StringIO()
